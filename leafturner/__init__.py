@@ -1,0 +1,1 @@
+"""Leafturner: machines that change strings and can be undone."""

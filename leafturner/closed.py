@@ -1,0 +1,73 @@
+"""Words that are equal, and the closed lists that show it."""
+
+from leafturner.errors import TooLarge
+from leafturner.machines import DIGITS, check_machine
+from leafturner.sections import cut_row, steps_of
+from leafturner.words import check_word, cut, has_letters, undone
+
+MOST_SECTIONS = 4000
+
+
+def quotient(one, other):
+    """Return the cut word that is at rest exactly if two words are equal."""
+    return cut(one + undone(other))
+
+
+def walk(steps, word):
+    """Follow a cut word from section to section, until all are found or one of them moves a digit.
+
+    Returns the list of the sections in the order in which they are found, and the first string
+    that the word does not keep, or None.
+    """
+    strings = {word: ""}
+    found = [word]
+    at = 0
+    while at < len(found):
+        string = strings[found[at]]
+        row = cut_row(steps, found[at])
+        for x, (out, section) in enumerate(row):
+            if out != x:
+                return found, string + DIGITS[x]
+            if section not in strings:
+                strings[section] = string + DIGITS[x]
+                found.append(section)
+        if len(found) > MOST_SECTIONS:
+            raise TooLarge("a word has too many different cut sections")
+        at += 1
+    return found, None
+
+
+def is_closed(machine, words):
+    check_machine(machine)
+    listed = {word: True for word in words}
+    if len(listed) < len(words) or not all(has_letters(machine, word) for word in words):
+        return False
+    steps = steps_of(machine)
+    return all(is_closed_at(steps, word, listed) for word in words)
+
+
+def is_closed_at(steps, word, listed):
+    """Tell whether a word is cut, moves no digit, and has all its cut sections listed."""
+    if cut(word) != word:
+        return False
+    row = cut_row(steps, word)
+    return all(out == x and section in listed for x, (out, section) in enumerate(row))
+
+
+def closed_list(machine, word):
+    check_word(machine, word)
+    found, moved = walk(steps_of(machine), cut(word))
+    if moved is not None:
+        return None
+    return found
+
+
+def is_at_rest(machine, word):
+    return closed_list(machine, word) is not None
+
+
+def are_equal(machine, one, other):
+    check_word(machine, one)
+    check_word(machine, other)
+    _, moved = walk(steps_of(machine), quotient(one, other))
+    return moved is None

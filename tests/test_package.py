@@ -1,0 +1,112 @@
+"""The interface stands as the document lists it, and the files keep the rules of form that a program can check."""
+
+import ast
+import builtins
+import importlib
+import inspect
+import pathlib
+import unittest
+
+FOLDER = pathlib.Path(__file__).resolve().parent.parent / "leafturner"
+
+INTERFACE = {
+    "machines": ("is_wide(machine)", "is_machine(machine)", "check_wide(machine)", "check_machine(machine)",
+                 "check_string(k, string)", "is_string(machine, string)", "image(machine, state, string)",
+                 "state_behind(machine, state, string)", "undoing(machine)", "behind(one, s, other, t)",
+                 "with_digits(machine, p)", "with_states(machine, q)"),
+    "least": ("reached(machine, state)", "trimmed(machine, state)", "least(machine, state)",
+              "are_alike(one, s, other, t)", "first_apart(one, s, other, t)"),
+    "texts": ("text_of(machine)", "read_machine(text)"),
+    "words": ("check_word(machine, word)", "cut_word(machine, word)", "undone_word(machine, word)",
+              "is_before(machine, one, other)"),
+    "sections": ("image_of(machine, word, string)", "section_of(machine, word, string)",
+                 "row_of_word(machine, word)", "keeps(machine, word, string)",
+                 "keeps_length(machine, word, length)"),
+    "closed": ("is_closed(machine, words)", "closed_list(machine, word)", "is_at_rest(machine, word)",
+               "are_equal(machine, one, other)"),
+    "apart": ("first_string(machine, one, other)", "classes(machine, words)", "table(machine, length)",
+              "least_word(machine, word, *, most=4)"),
+}
+
+
+def trees():
+    return [(path, ast.parse(path.read_text())) for path in sorted(FOLDER.glob("**/*.py"))]
+
+
+class Interface(unittest.TestCase):
+    def test_names_and_arguments(self):
+        for name, told in INTERFACE.items():
+            module = importlib.import_module("leafturner." + name)
+            for line in told:
+                function = getattr(module, line.partition("(")[0])
+                self.assertEqual(function.__name__ + str(inspect.signature(function)), line)
+                self.assertEqual(function.__module__, module.__name__)
+
+
+class Form(unittest.TestCase):
+    def test_the_folder_contains_files_of_the_program_alone(self):
+        for path in FOLDER.iterdir():
+            self.assertTrue(path.suffix == ".py" or path.name == "__pycache__", path)
+
+    def test_characters_lines_and_sizes(self):
+        for path in sorted(FOLDER.glob("**/*.py")):
+            text = path.read_bytes()
+            self.assertTrue(all([byte == 10 or 32 <= byte <= 126 for byte in text]), path)
+            lines = text.decode("ascii").splitlines()
+            self.assertLessEqual(len(lines), 399, path)
+            self.assertLessEqual(max([len(line) for line in lines]), 120, path)
+
+    def test_functions_are_small(self):
+        for path, tree in trees():
+            for node in ast.walk(tree):
+                if isinstance(node, ast.FunctionDef):
+                    self.assertLessEqual(node.end_lineno - node.lineno + 1, 40, (path, node.name))
+                    self.assertEqual(node.decorator_list, [], (path, node.name))
+
+    def test_imports(self):
+        for path, tree in trees():
+            for node in ast.walk(tree):
+                self.assertNotIsInstance(node, (ast.Import, ast.Global, ast.AsyncFunctionDef), path)
+                if isinstance(node, ast.ImportFrom):
+                    self.assertTrue(node.module.startswith("leafturner."), path)
+                    for alias in node.names:
+                        self.assertTrue(self.defines(node.module, alias.name), (path, alias.name))
+
+    def defines(self, module, name):
+        tree = ast.parse((FOLDER / (module.partition(".")[2] + ".py")).read_text())
+        for node in tree.body:
+            if isinstance(node, (ast.FunctionDef, ast.ClassDef)) and node.name == name:
+                return True
+            if isinstance(node, ast.Assign) and node.targets[0].id == name:
+                return True
+        return False
+
+    def test_no_name_hides_a_builtin_or_an_import(self):
+        for path, tree in trees():
+            imported = [alias.name for node in ast.walk(tree) if isinstance(node, ast.ImportFrom)
+                        for alias in node.names]
+            classes = [node.name for node in ast.walk(tree) if isinstance(node, ast.ClassDef)]
+            for node in ast.walk(tree):
+                name = None
+                if isinstance(node, ast.arg):
+                    name = node.arg
+                elif isinstance(node, ast.Name) and isinstance(node.ctx, ast.Store):
+                    name = node.id
+                elif isinstance(node, ast.FunctionDef) and node.name != "__init__":
+                    name = node.name
+                if name is not None:
+                    self.assertFalse(hasattr(builtins, name), (path, name))
+                    self.assertNotIn(name, imported + classes, path)
+
+    def test_no_floats_and_no_percent_signs(self):
+        for path, tree in trees():
+            for node in ast.walk(tree):
+                self.assertNotIsInstance(node, ast.Div, path)
+                if isinstance(node, ast.Constant):
+                    self.assertNotIsInstance(node.value, float, path)
+                    if isinstance(node.value, str):
+                        self.assertNotIn("%", node.value, path)
+
+
+if __name__ == "__main__":
+    unittest.main()
