@@ -53,7 +53,7 @@ class Malformed(LeafError):
     """A text breaks off, or has a wrong word, at an index."""
 
     def __init__(self, at):
-        super().__init__(f"malformed at the word {at}")
+        super().__init__("a text breaks off, or has a wrong word")
         self.at = at
 
 
@@ -61,5 +61,5 @@ class BadJournal(LeafError):
     """A record has a wrong row at an index."""
 
     def __init__(self, row):
-        super().__init__(f"bad record at the row {row}")
+        super().__init__("a record has a wrong row")
         self.row = row

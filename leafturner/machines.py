@@ -38,7 +38,7 @@ def check_machine(machine):
 
 def check_state(machine, state):
     if state not in range(len(machine[1])):
-        raise BadNumber(f"no state {state}")
+        raise BadNumber("no such state")
 
 
 def check_two_states(one, s, other, t):

@@ -205,7 +205,7 @@ class Tables(unittest.TestCase):
         self.assertRaises(TooLarge, apart.table, FREE, 4)
 
     def test_the_length(self):
-        for length in (-1, 7, 8, 100):
+        for length in (-1, 7, 8, 100, support.GREAT):
             self.assertRaises(BadNumber, apart.table, FIRST, length)
             self.assertRaises(BadNumber, apart.table, FREE, length)
             for machine in tuple(WRONG.values()) + (NINE,):
@@ -241,7 +241,7 @@ class LeastWords(unittest.TestCase):
                 expected = "A" * length if length <= most else None
                 self.assertEqual(apart.least_word(FIRST, "A" * length, most=most), expected)
             self.assertEqual(apart.least_word(FIRST, "b" * 9, most=most), "")
-        for most in (-1, 7, 8, 100):
+        for most in (-1, 7, 8, 100, -support.GREAT):
             self.assertRaises(BadNumber, apart.least_word, FIRST, "a", most=most)
             self.assertRaises(BadNumber, apart.least_word, FREE, "", most=most)
 

@@ -28,6 +28,10 @@ class Errors(unittest.TestCase):
         self.assertEqual(errors.BadJournal(0).row, 0)
         self.assertEqual(errors.BadJournal(5).row, 5)
 
+    def test_numbers_of_any_size(self):
+        self.assertEqual(errors.Malformed(10 ** 5000).at, 10 ** 5000)
+        self.assertEqual(errors.BadJournal(-10 ** 5000).row, -10 ** 5000)
+
 
 if __name__ == "__main__":
     unittest.main()

@@ -182,7 +182,7 @@ class Errors(unittest.TestCase):
             for machine in WRONG.values():
                 self.assertRaises(NotMachine, function, machine, 0)
                 self.assertRaises(NotMachine, function, machine, -1)
-            for state in (-1, 2, 200):
+            for state in (-1, 2, 200, support.GREAT, -support.GREAT):
                 self.assertRaises(BadNumber, function, FIRST, state)
 
     def test_functions_of_two_states(self):
@@ -190,7 +190,7 @@ class Errors(unittest.TestCase):
             for machine in WRONG.values():
                 self.assertRaises(NotMachine, function, machine, -1, FIRST, -1)
                 self.assertRaises(NotMachine, function, FIRST, -1, machine, -1)
-            for s, t in ((-1, 0), (2, 0), (0, -1), (0, 1), (-1, -1)):
+            for s, t in ((-1, 0), (2, 0), (0, -1), (0, 1), (-1, -1), (support.GREAT, 0), (0, -support.GREAT)):
                 self.assertRaises(BadNumber, function, FIRST, s, REST, t)
                 self.assertRaises(BadNumber, function, FIRST, s, (3, (((0, 0), (1, 0), (2, 0)),)), t)
             self.assertRaises(BadNumber, function, FIRST, 0, support.THREE_DIGITS, 0)

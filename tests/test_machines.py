@@ -132,7 +132,7 @@ class Images(unittest.TestCase):
             for machine in WRONG.values():
                 self.assertRaises(NotMachine, function, machine, 0, "0")
                 self.assertRaises(NotMachine, function, machine, -1, "x")
-            for state in (-1, 2, 200):
+            for state in (-1, 2, 200, support.GREAT, -support.GREAT):
                 self.assertRaises(BadNumber, function, FIRST, state, "0")
                 self.assertRaises(BadNumber, function, FIRST, state, "x")
             for string in ("2", "x", "0" * 61):
@@ -218,7 +218,7 @@ class Behind(unittest.TestCase):
         for machine in WRONG.values():
             self.assertRaises(NotMachine, machines.behind, machine, -1, FIRST, -1)
             self.assertRaises(NotMachine, machines.behind, FIRST, -1, machine, -1)
-        for s, t in ((-1, 0), (2, 0), (0, -1), (0, 67), (2, 67)):
+        for s, t in ((-1, 0), (2, 0), (0, -1), (0, 67), (2, 67), (support.GREAT, 0), (0, -support.GREAT)):
             self.assertRaises(BadNumber, machines.behind, FIRST, s, wide, t)
         self.assertRaises(BadNumber, machines.behind, FIRST, 0, wide, 0)
         self.assertRaises(BadNumber, machines.behind, support.cycle(2, 200), 0, support.cycle(3, 199), 0)
@@ -265,7 +265,7 @@ class Renaming(unittest.TestCase):
                                      q[machines.state_behind(machine, state, string)])
 
     def test_no_arrangements(self):
-        for p in ((), (0,), (0, 1, 2), (0, 0), (1, 1), (0, 2), (1, 2), (0, -1), (-1, 1), (0, 1, 1)):
+        for p in ((), (0,), (0, 1, 2), (0, 0), (1, 1), (0, 2), (1, 2), (0, -1), (-1, 1), (0, 1, 1), (0, support.GREAT)):
             self.assertRaises(BadNumber, machines.with_digits, FIRST, p)
             self.assertRaises(BadNumber, machines.with_states, FIRST, p)
         self.assertRaises(BadNumber, machines.with_states, support.cycle(2, 200), (1, 0))

@@ -98,6 +98,13 @@ class Form(unittest.TestCase):
                     self.assertFalse(hasattr(builtins, name), (path, name))
                     self.assertNotIn(name, imported + classes, path)
 
+    def test_messages_of_errors_are_plain(self):
+        """A number in a message may be too long to be written out."""
+        for path, tree in trees():
+            for node in ast.walk(tree):
+                if isinstance(node, ast.Raise) and node.exc is not None and node.exc.func.id != "Malformed":
+                    self.assertEqual([isinstance(each, ast.Constant) for each in node.exc.args], [True], path)
+
     def test_no_floats_and_no_percent_signs(self):
         for path, tree in trees():
             for node in ast.walk(tree):

@@ -211,7 +211,7 @@ class Errors(unittest.TestCase):
             self.assertRaises(NotMachine, sections.keeps_length, machine, "z", -1)
         for word in NO_WORDS:
             self.assertRaises(NotWord, sections.keeps_length, FIRST, word, -1)
-        for length in (-1, 9, 10, 100):
+        for length in (-1, 9, 10, 100, support.GREAT):
             self.assertRaises(BadNumber, sections.keeps_length, FIRST, "a", length)
             self.assertRaises(BadNumber, sections.keeps_length, FIRST, "", length)
 
