@@ -2,19 +2,15 @@
 
 from leafturner.errors import TooLarge
 from leafturner.machines import DIGITS, check_machine
-from leafturner.sections import cut_row, steps_of
+from leafturner.sections import CutSections, cut_row, steps_of
+from leafturner.tidy import Tidy
 from leafturner.words import check_word, cut, has_letters, undone
 
 MOST_SECTIONS = 4000
 
 
-def quotient(one, other):
-    """Return the cut word that is at rest exactly if two words are equal."""
-    return cut(one + undone(other))
-
-
-def walk(steps, word):
-    """Follow a cut word from section to section, until all are found or one of them moves a digit.
+def walk(reader, word):
+    """Follow a word from section to section, until all are found or one of them moves a digit.
 
     Returns the list of the sections in the order in which they are found, and the first string
     that the word does not keep, or None.
@@ -24,7 +20,7 @@ def walk(steps, word):
     at = 0
     while at < len(found):
         string = strings[found[at]]
-        row = cut_row(steps, found[at])
+        row = reader.row(found[at])
         for x, (out, section) in enumerate(row):
             if out != x:
                 return found, string + DIGITS[x]
@@ -35,6 +31,17 @@ def walk(steps, word):
             raise TooLarge("a word has too many different cut sections")
         at += 1
     return found, None
+
+
+def first_moved(tidy, word):
+    """Return the first string that a word of any length does not keep, or None if it is at rest."""
+    _, moved = walk(tidy, tidy.tidied(word))
+    return moved
+
+
+def first_difference(tidy, one, other):
+    """Return the first string of two words of any length, or None if they are equal."""
+    return first_moved(tidy, one + undone(other))
 
 
 def is_closed(machine, words):
@@ -56,18 +63,18 @@ def is_closed_at(steps, word, listed):
 
 def closed_list(machine, word):
     check_word(machine, word)
-    found, moved = walk(steps_of(machine), cut(word))
+    found, moved = walk(CutSections(machine), cut(word))
     if moved is not None:
         return None
     return found
 
 
 def is_at_rest(machine, word):
-    return closed_list(machine, word) is not None
+    check_word(machine, word)
+    return first_moved(Tidy(machine), word) is None
 
 
 def are_equal(machine, one, other):
     check_word(machine, one)
     check_word(machine, other)
-    _, moved = walk(steps_of(machine), quotient(one, other))
-    return moved is None
+    return first_difference(Tidy(machine), one, other) is None

@@ -1,6 +1,7 @@
 """Wide machines: their form, what their states do to strings, and machines that are made of others."""
 
-from leafturner.errors import BadNumber, NotMachine, NotString, TooLarge
+from leafturner.errors import BadNumber, NotMachine, NotString
+from leafturner.explore import explored
 
 DIGITS = "0123456789"
 LEAST_DIGITS = 2
@@ -24,6 +25,11 @@ def is_row(row, k, states):
 
 def is_machine(machine):
     return is_wide(machine) and len(machine[1]) <= MOST_STATES
+
+
+def check_count(k):
+    if k not in range(LEAST_DIGITS, MOST_DIGITS + 1):
+        raise BadNumber("there are from 2 to 4 digits")
 
 
 def check_wide(machine):
@@ -112,19 +118,20 @@ def undone_row(row):
 
 def behind(one, s, other, t):
     check_two_states(one, s, other, t)
-    numbers = {(s, t): 0}
-    pairs = [(s, t)]
-    rows = []
-    while len(rows) < len(pairs):
-        row = row_behind(one[1][pairs[len(rows)][0]], other[1][pairs[len(rows)][1]])
-        for _, pair in row:
-            if pair not in numbers:
-                numbers[pair] = len(pairs)
-                pairs.append(pair)
-        if len(pairs) > MOST_WIDE_STATES:
-            raise TooLarge("the machine has too many states")
-        rows.append(tuple([(out, numbers[pair]) for out, pair in row]))
+    _, rows = explored(Pairs(one[1], other[1]), (s, t), MOST_WIDE_STATES)
     return (one[0], tuple(rows))
+
+
+class Pairs:
+    """Reads pairs of rows, one behind the other."""
+
+    def __init__(self, first, second):
+        self.first = first
+        self.second = second
+
+    def row(self, pair):
+        s, t = pair
+        return row_behind(self.first[s], self.second[t])
 
 
 def row_behind(first, second):

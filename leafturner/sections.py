@@ -43,6 +43,16 @@ def cut_row(steps, word):
     return row
 
 
+class CutSections:
+    """Reads cut words; their cut sections follow."""
+
+    def __init__(self, machine):
+        self.steps = steps_of(machine)
+
+    def row(self, word):
+        return cut_row(self.steps, word)
+
+
 def image_of(machine, word, string):
     check_word(machine, word)
     check_string(machine[0], string)

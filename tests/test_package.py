@@ -26,7 +26,21 @@ INTERFACE = {
                "are_equal(machine, one, other)"),
     "apart": ("first_string(machine, one, other)", "classes(machine, words)", "table(machine, length)",
               "least_word(machine, word, *, most=4)"),
+    "wordmachine": ("section_words(machine, word)", "word_machine(machine, word)", "section_count(machine, word)",
+                    "are_same(machine, one, other)", "row_of(machine, word, string)",
+                    "first_word(machine, word, row)", "depth(machine, word)", "acted(word_machine, string)"),
+    "orders": ("power(machine, word, exponent)", "order_up_to(machine, word, most)",
+               "round_of(machine, word, string)", "is_witness(machine, word, witness)",
+               "find_witness(machine, word)", "order(machine, word)"),
+    "levels": ("strings_of(k, level)", "level_permutation(machine, word, level)", "cycles(machine, word, level)",
+               "is_round(machine, word, level)", "odd_levels(machine, word, level)"),
+    "groups": ("orbits(machine, words, level)", "first_split(machine, words, most)",
+               "members(machine, words, level)", "size(machine, words, level)",
+               "keepers(machine, words, level, number)"),
 }
+# What the package may take from elsewhere, by the modules.
+LIBRARY = {"math": ("gcd", "lcm", "isqrt", "comb", "perm", "factorial"),
+           "heapq": ("heappush", "heappop", "heapify", "heapreplace", "heappushpop")}
 
 
 def trees():
@@ -68,11 +82,13 @@ class Form(unittest.TestCase):
             for node in ast.walk(tree):
                 self.assertNotIsInstance(node, (ast.Import, ast.Global, ast.AsyncFunctionDef), path)
                 if isinstance(node, ast.ImportFrom):
-                    self.assertTrue(node.module.startswith("leafturner."), path)
                     for alias in node.names:
-                        self.assertTrue(self.defines(node.module, alias.name), (path, alias.name))
+                        self.assertIsNone(alias.asname, (path, alias.name))
+                        self.assertTrue(alias.name in LIBRARY.get(node.module, ())
+                                        or self.defines(node.module, alias.name), (path, alias.name))
 
     def defines(self, module, name):
+        self.assertTrue(module.startswith("leafturner."), module)
         tree = ast.parse((FOLDER / (module.partition(".")[2] + ".py")).read_text())
         for node in tree.body:
             if isinstance(node, (ast.FunctionDef, ast.ClassDef)) and node.name == name:
