@@ -3,14 +3,14 @@
 from leafturner.errors import TooLarge
 
 
-def explored(reader, start, most):
-    """Return the things that are reached from one, and their rows.
+def explored(reader, starts, most):
+    """Return the things that are reached from some different ones, and their rows.
 
     The reader has a method `row` that tells for a thing what is written for each digit, and the thing in which
     it goes on. The things stand in the order in which they are found, and the rows tell them by their numbers.
     """
-    numbers = {start: 0}
-    found = [start]
+    numbers = {start: number for number, start in enumerate(starts)}
+    found = list(starts)
     rows = []
     while len(rows) < len(found):
         row = reader.row(found[len(rows)])

@@ -38,12 +38,16 @@ def least(machine, state):
 def merged(machine):
     """Return the machine whose states are the classes of states that are alike, that of the state 0 first."""
     k, rows = machine
-    numbers = alike_numbers(rows)
+    return (k, tuple(class_rows(rows, alike_numbers(rows))))
+
+
+def class_rows(rows, numbers):
+    """Return the list of the rows of the classes of states, whose numbers are told for each state."""
     made = {}
     for row, number in zip(rows, numbers):
         if number not in made:
             made[number] = renumbered(row, numbers)
-    return (k, tuple([made[number] for number in range(len(made))]))
+    return [made[number] for number in range(len(made))]
 
 
 def alike_numbers(rows):

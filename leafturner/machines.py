@@ -118,7 +118,7 @@ def undone_row(row):
 
 def behind(one, s, other, t):
     check_two_states(one, s, other, t)
-    _, rows = explored(Pairs(one[1], other[1]), (s, t), MOST_WIDE_STATES)
+    _, rows = explored(Pairs(one[1], other[1]), [(s, t)], MOST_WIDE_STATES)
     return (one[0], tuple(rows))
 
 

@@ -12,7 +12,7 @@ MOST_SECTION_WORDS = 1000
 
 def found_sections(machine, word):
     """Return the section words of a word of the machine, and their rows by their numbers."""
-    return explored(CutSections(machine), cut(word), MOST_SECTION_WORDS)
+    return explored(CutSections(machine), [cut(word)], MOST_SECTION_WORDS)
 
 
 def section_words(machine, word):

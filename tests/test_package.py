@@ -37,6 +37,17 @@ INTERFACE = {
     "groups": ("orbits(machine, words, level)", "first_split(machine, words, most)",
                "members(machine, words, level)", "size(machine, words, level)",
                "keepers(machine, words, level, number)"),
+    "endless": ("check_endless(k, endless)", "short_form(k, endless)", "beginning(k, endless, length)",
+                "first_difference(k, one, other)", "are_tail_alike(k, one, other)", "are_level_alike(k, one, other)",
+                "image(machine, word, endless)", "keeps(machine, word, endless)", "way(machine, word, endless, steps)",
+                "round_of(machine, word, endless, most)"),
+    "cores": ("is_directed(machine)", "least_core(machine)", "is_core_list(machine, words)",
+              "depths(machine, words, *, most=8)", "fits(machine, words, table)", "full_core(machine)",
+              "come_down(machine, words, word)"),
+    "activity": ("activity(machine, word, level)", "activities(machine, word, level)", "series(machine, word)",
+                 "degree(machine, word)", "machine_degree(machine)", "is_bounded(machine, word)"),
+    "growth": ("ball(machine, length)", "growth(machine, length)", "least(machine, word)",
+               "table(machine, length)", "is_finite(machine, length)"),
 }
 # What the package may take from elsewhere, by the modules.
 LIBRARY = {"math": ("gcd", "lcm", "isqrt", "comb", "perm", "factorial"),
