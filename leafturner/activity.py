@@ -50,10 +50,10 @@ def denominator_of(arrows):
     size = len(arrows)
     matrix = [[0] * size for _ in range(size)]
     found = [1]
-    for degree in range(1, size + 1):
+    for place in range(1, size + 1):
         matrix = [[matrix[i][j] + (found[-1] if i == j else 0) for j in range(size)] for i in range(size)]
         matrix = [[sum([matrix[after][j] for after in row]) for j in range(size)] for row in arrows]
-        found.append(-sum([matrix[i][i] for i in range(size)]) // degree)
+        found.append(-sum([matrix[i][i] for i in range(size)]) // place)
     return without_zeros(found)
 
 

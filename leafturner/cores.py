@@ -14,15 +14,15 @@ GREATEST_LENGTH = 12
 MOST_SECTIONS_AT_LENGTH = 800
 # No word has more different sections at strings of the greatest depth.
 ALL_SECTIONS_AT_DEPTH = 65536
-# A list that grows beyond these bounds most likely grows for ever.
+# A list that grows beyond these bounds, or for so many turns, most likely grows for ever.
+MOST_TURNS = 30
 MOST_CORE_WORDS = 400
 MOST_WORDS_OF_TURN = 20000
 
 
 def is_directed(machine):
     check_machine(machine)
-    states = range(len(machine[1]))
-    return any(rests(machine, state) and all_lead_to(machine, state) for state in states)
+    return any(rests(machine, state) and all_lead_to(machine, state) for state in range(len(machine[1])))
 
 
 def rests(machine, state):
@@ -92,10 +92,12 @@ def least_core(machine):
     tidy = Tidy(machine)
     letters = letters_of(machine)
     listed = different([""] + [tidy.tidied(letter) for letter in letters])
+    settled = False
+    turns = 0
     try:
-        settled = False
-        while not settled and len(listed) <= MOST_CORE_WORDS:
+        while not settled and turns < MOST_TURNS and len(listed) <= MOST_CORE_WORDS:
             listed, settled = next_list(tidy, letters, listed)
+            turns += 1
     except TooLarge:
         return None
     if not settled:
@@ -138,10 +140,10 @@ class Listed:
         if not self.words or len(self.firsts) < len(self.words):
             return False
         letters = [self.tidy.tidied(letter) for letter in self.letters]
-        needed = [""] + letters + self.below(self.words)
+        needed = [""] + letters + self.parts_of(self.words)
         return all(self.has(word) for word in needed)
 
-    def below(self, words):
+    def parts_of(self, words):
         """Return the different tidy sections of tidy words at digits."""
         return different([section for word in words for _, section in self.tidy.row(word)])
 
@@ -158,7 +160,7 @@ class Listed:
                 return length
             if len(level) > bound:
                 return None
-            level = self.below(level)
+            level = self.parts_of(level)
         return None
 
     def fit(self, word, row):

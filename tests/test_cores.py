@@ -171,6 +171,11 @@ class LeastCores(unittest.TestCase):
         for machine in (support.FREE, support.LAMPS):
             self.assertIsNone(cores.least_core(machine))
             self.assertIsNone(cores.full_core(machine))
+        # Each turn brings more words, without an end.
+        for machine in ((3, (((0, 1), (1, 1), (2, 0)), ((1, 1), (0, 0), (2, 1)))),
+                        (4, (((0, 1), (1, 0), (2, 1), (3, 1)), ((2, 1), (1, 1), (3, 1), (0, 0))))):
+            self.assertIsNone(cores.least_core(machine))
+            self.assertIsNone(cores.full_core(machine))
         # All words have the order 2 or are at rest.
         self.assertEqual(len(cores.least_core((2, (((1, 0), (0, 0)),)))), 2)
         self.assertEqual(cores.least_core((2, (((0, 0), (1, 0)),))), [""])

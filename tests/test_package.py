@@ -132,6 +132,17 @@ class Form(unittest.TestCase):
                 if isinstance(node, ast.Raise) and node.exc is not None and node.exc.func.id != "Malformed":
                     self.assertEqual([isinstance(each, ast.Constant) for each in node.exc.args], [True], path)
 
+    def test_generator_expressions_read_nothing_that_is_kept(self):
+        for path, tree in trees():
+            for function in ast.walk(tree):
+                if isinstance(function, ast.FunctionDef):
+                    kept = [node.targets[0].id for node in ast.walk(function) if isinstance(node, ast.Assign)
+                            and isinstance(node.value, ast.Call) and isinstance(node.value.func, ast.Name)
+                            and node.value.func.id in ("range", "zip", "enumerate", "reversed")]
+                    read = [node.id for each in ast.walk(function) if isinstance(each, (ast.GeneratorExp, ast.Lambda))
+                            for node in ast.walk(each) if isinstance(node, ast.Name)]
+                    self.assertEqual([name for name in kept if name in read], [], (path, function.name))
+
     def test_no_floats_and_no_percent_signs(self):
         for path, tree in trees():
             for node in ast.walk(tree):
