@@ -167,7 +167,9 @@ class Shown(unittest.TestCase):
 
     def test_the_other_kind(self):
         for answer in (("finite", 1, ["b"], []), ("endless", ("0", 2, 1, "")), ("open",), ("equal", "b"), ("equal", ""),
-                       ("apart", ["00"]), ("apart", []), ("none", ["b"]), ("equal",), ("apart",)):
+                       ("apart", ["00"]), ("apart", ["0", "0"]), ("apart", []), ("none", ["b"]), ("none", "00"),
+                       ("equal", "00"), ("open", "00"), ("open", ["b"]), ("equal",), ("apart",),
+                       ("equal", ["b"], []), ("apart", "00", "00")):
             for one, other in (("b", ""), ("a", "A"), ("", "")):
                 self.assertEqual(certificates.shown(FIRST, one, other, answer), "none", answer)
 
@@ -222,6 +224,12 @@ class FiniteOrders(unittest.TestCase):
         for word in ("A", "aa", "b", ""):
             self.assertIs(self.accepted(SIX, word, n, words, strings), False)
 
+    def test_n_of_0(self):
+        for machine, word in ((FIRST, "a"), (FIRST, "b"), (SIX, "a"), (FIRST, "")):
+            for n in (0, -1):
+                for strings in ([], ["0"]):
+                    self.assertIs(self.accepted(machine, word, n, [""], strings), False)
+
     def test_multiples_of_the_order(self):
         for n in (12, 18, 30, 198):
             words, rests = support.closed_slowly(SIX, "a" * n)
@@ -261,6 +269,23 @@ class FiniteOrders(unittest.TestCase):
         strings = [self.first_moved(machine, 36), self.first_moved(machine, 24)]
         self.assertIs(self.accepted(machine, "a", 72, words, strings), True)
         self.assertIs(self.accepted(machine, "a", 72, words, strings[::-1]), False)
+
+    def test_the_greatest_orders(self):
+        """There are orders of 192 and 216, and none between them; only the first one is accepted."""
+        turn, swap, nothing = (1, 2, 0), (1, 0, 2), (0, 1, 2)
+        for turns, swaps, order in ((1, 6, 192), (3, 3, 216)):
+            outs = [turn] * turns + [swap] * swaps
+            last = len(outs)
+            # Each state goes on in the next one at a single digit.
+            rows = [tuple([(out, state + 1 if x == 0 else last) for x, out in enumerate(written)])
+                    for state, written in enumerate(outs)]
+            machine = (3, tuple(rows) + (tuple([(x, last) for x in nothing]),))
+            words, rests = support.closed_slowly(machine, "a" * order)
+            self.assertIs(rests, True)
+            strings = ["0" * last, "0" * turns]
+            self.assertIs(self.accepted(machine, "a", order, words, strings), order == 192)
+            self.assertNotEqual(self.led(machine, order // 2, strings[0]), strings[0])
+            self.assertNotEqual(self.led(machine, order // 3, strings[1]), strings[1])
 
     def led(self, machine, times, string):
         for _ in range(times):
@@ -440,8 +465,13 @@ class OrdersShown(unittest.TestCase):
 
     def test_other_answers(self):
         for answer in (("open",), ("finite", 0, ["b"], []), ("finite", 1, [], []), ("finite", 1, ["b"], ["0"]),
-                       ("finite", 2, ["bb"], ["0"]), ("endless", ("0", 2, 1, "")), ("equal", ["b"]), ("apart", "0")):
+                       ("finite", 2, ["bb"], ["0"]), ("endless", ("0", 2, 1, "")), ("equal", ["b"]), ("apart", "0"),
+                       ("finite",), ("finite", 1, ["b"]), ("finite", 1, ["b"], [], []), ("equal", 1, ["b"], []),
+                       ("open", 1, ["b"], [])):
             self.assertEqual(certificates.order_shown(FIRST, "b", answer), "none", answer)
+        for answer in (("endless",), ("endless", ("0", 2, 1, ""), 1), ("open", ("0", 2, 1, "")),
+                       ("finite", ("0", 2, 1, ""))):
+            self.assertEqual(certificates.order_shown(FIRST, "a", answer), "none", answer)
         self.assertEqual(certificates.order_shown(FIRST, "b", ("finite", 1, ["b"], [])), "finite")
 
     def test_no_two_answers_contradict_each_other(self):

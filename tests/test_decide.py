@@ -246,6 +246,12 @@ class Orders(unittest.TestCase):
         # The undone word has the same order, but its power is another word.
         self.assertIs(decide.is_order_answer(SIX, "A", ("finite", n, words, strings)), False)
 
+    def test_n_of_0(self):
+        for machine, word in ((FIRST, "a"), (FIRST, "b"), (SIX, "a"), (FIRST, "")):
+            for n in (0, -1):
+                for strings in ([], ["0"]):
+                    self.assertIs(decide.is_order_answer(machine, word, ("finite", n, [""], strings)), False)
+
     def test_multiples_of_the_order(self):
         for n in (12, 18, 60, 198):
             words, rests = support.closed_slowly(SIX, "a" * n)

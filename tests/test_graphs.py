@@ -371,6 +371,12 @@ class Above(unittest.TestCase):
         self.assertIs(graphs.over(lower, lower, 2), False)
         self.assertIs(graphs.over(graphs.level_graph(FIRST, ["a", "b"], 4), lower, 2), False)
         self.assertIs(graphs.over(graphs.level_graph(FIRST, ["a", "b"], 4), lower, 4), True)
+        # Rows that stay where they are lie over each other, if only the sizes fit.
+        for above in range(1, 13):
+            for below in range(1, 7):
+                for k in (2, 3, 4):
+                    found = graphs.over((tuple(range(above)),), (tuple(range(below)),), k)
+                    self.assertIs(found, above == k * below)
 
     def test_errors(self):
         for graph in NO_GRAPHS.values():
